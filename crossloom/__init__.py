@@ -1,0 +1,1 @@
+"""Crossloom: the fabric of a packet switch."""
