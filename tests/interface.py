@@ -71,4 +71,83 @@ INTERFACE = {
         put(pairs, one, gate)
         load(pairs)
     """,
+    "sorters": """
+        check_net(net, many)
+        through(net, row)
+        odd_even(many)
+        sorted_part(low, many)
+        merged_part(low, many, step)
+        bitonic(many)
+        bubble(many)
+        sorts_all(net, many)
+        fault_of(net, many)
+        layers(net)
+        without_idle(net, many)
+        sorted_in(pairs)
+        fabric_passes(pairs)
+        origin(pairs, place)
+    """,
+    "copiers": """
+        check_groups(groups, many)
+        sums(groups)
+        intervals(groups)
+        split(low, high, place, count)
+        copied(groups, many)
+        goals(groups, many)
+        carried(groups, many)
+        nodes_used(groups, many)
+    """,
+    "colours": """
+        class Calls(calls, left, right)
+            most_calls()
+            at(side, gate, colour)
+            first_free(side, gate, many)
+            exchange(start, here, other)
+            colour(number, many)
+            colour_all()
+            fields calls, left, right, colours
+        coloured(calls, left, right)
+        check_colours(calls, colours, many)
+        by_colour(calls, colours, many)
+    """,
+    "clos": """
+        class Clos(middle, gates, switches)
+            size()
+            check(one, other)
+            ends(one, other)
+            used_in(switch)
+            used_out(switch)
+            free_middle(one, other)
+            put(one, other)
+            put_by(one, other, number)
+            end(one)
+            put_moving(one, other)
+            exchange(start, one, other)
+            at(side, switch, number)
+            is_sound()
+            shown()
+            fields middle, gates, switches, calls
+        never_blocks(middle, gates)
+        can_carry(middle, gates)
+        blocking_row(middle, gates)
+        short_row(middle, gates)
+        assigned(pairs, gates)
+        carried_net(pairs, middle, gates)
+    """,
+    "matches": """
+        check_wants(wants, many)
+        is_match(wants, match)
+        is_maximal(wants, match)
+        next_of(ones, start, many)
+        class Turns(many)
+            round(wants, match, first)
+            match(wants, rounds)
+            fields many, grants, takes
+        by_draws(wants, draws)
+        greatest(wants)
+        lengthen(wants, owner, one, seen)
+        heaviest(weights)
+        weight_of(weights, match)
+        count(match)
+    """,
 }

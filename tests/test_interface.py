@@ -7,7 +7,10 @@ import pathlib
 import unittest
 
 from crossloom import errors
+from crossloom.clos import Clos
+from crossloom.colours import Calls
 from crossloom.elements import Net
+from crossloom.matches import Turns
 from tests.interface import INTERFACE
 
 PACKAGE = pathlib.Path(__file__).resolve().parent.parent / "crossloom"
@@ -74,7 +77,12 @@ class Interface(unittest.TestCase):
 
     def objects(self):
         """Return a new object of each class that has fields, with its module."""
-        return [("elements", "Net", Net(2, [[0, 1], [1, 0]]))]
+        return [
+            ("elements", "Net", Net(2, [[0, 1], [1, 0]])),
+            ("colours", "Calls", Calls([(0, 1)], 1, 2)),
+            ("clos", "Clos", Clos(1, 2, 3)),
+            ("matches", "Turns", Turns(2)),
+        ]
 
     def test_each_class_with_fields_is_seen(self):
         seen = [(module, name) for module, name, _ in self.objects()]
