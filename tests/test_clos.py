@@ -211,6 +211,41 @@ class ComingAndGoing(Case):
         self.assertGreater(moved, 3)
 
 
+class Everything(Case):
+    def sound_nets(self, middle):
+        """Return a net of two switches of two gates for each way in which its calls can stand."""
+        for pairs in all_pairings(4):
+            ones = [one for one, other in enumerate(pairs) if other is not None]
+            for numbers in itertools.product(range(middle), repeat=len(ones)):
+                net = Clos(middle, 2, 2)
+                net.calls = {one: (pairs[one], number) for one, number in zip(ones, numbers)}
+                if are_sound(net):
+                    yield net
+
+    def free_pairs(self, net):
+        taken = [call[0] for call in net.calls.values()]
+        free = [other for other in range(4) if other not in taken]
+        return [(one, other) for one in range(4) if one not in net.calls for other in free]
+
+    def test_with_three_middle_ones_no_call_is_blocked_however_the_others_stand(self):
+        for net in self.sound_nets(3):
+            self.same(net.is_sound(), True)
+            for one, other in self.free_pairs(net):
+                free = net.free_middle(one, other)
+                self.same(net.put(one, other), free[0])
+                self.same(net.is_sound(), True)
+                net.end(one)
+
+    def test_with_two_middle_ones_none_is_blocked_with_others_moved(self):
+        for net in self.sound_nets(2):
+            before = dict(net.calls)
+            for one, other in self.free_pairs(net):
+                moved = net.put_moving(one, other)
+                self.same(moved, tuple(sorted(gate for gate in before if net.calls[gate] != before[gate])))
+                self.same(net.is_sound() and are_sound(net), True)
+                net.calls = dict(before)
+
+
 class TooSmall(Case):
     def test_never_blocks_and_can_carry(self):
         for gates in range(1, 6):
