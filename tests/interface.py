@@ -150,4 +150,69 @@ INTERFACE = {
         weight_of(weights, match)
         count(match)
     """,
+    "frames": """
+        check_rates(rates, slots)
+        frame(rates, slots)
+        has_rates(plan, rates)
+        served(plan, one, gate, start, slots)
+        least_served(plan, one, gate, slots)
+        longest_wait(plan, one, gate)
+        too_much(rates, slots)
+        free_slots(rates, slots)
+        widened(rates, one, gate, much)
+    """,
+    "buckets": """
+        class Bucket(burst, rate)
+            take(count)
+            fields burst, rate, marks
+        keeps(arrivals, burst, rate)
+        taken(arrivals, burst, rate)
+        least_burst(arrivals, rate)
+        shaped(arrivals, burst, rate)
+        longest_queue(arrivals, burst, rate)
+        together(one, other)
+        both_kept(one, other)
+    """,
+    "curves": """
+        check_curve(curve)
+        bucket_curve(burst, rate, slots)
+        late_curve(wait, rate, slots)
+        folded(one, other)
+        unfolded(one, other)
+        is_under(row, curve)
+        most_queue(comes, serves)
+        most_wait(comes, serves)
+        tightest(row)
+        served_by(row, offers)
+        surely(offers)
+        cell_waits(row, out)
+    """,
+    "rounds": """
+        class Deficits(quanta)
+            put(queue, length)
+            visit(queue)
+            round()
+            fields quanta, queues, left, sent
+        check_packets(packets, weights)
+        tag(packets, weights, place)
+        is_ahead(one, other)
+        fair_order(packets, weights)
+        end_times(packets, order)
+        fluid_time(packets, weights, place)
+        longest(packets)
+        behind_fluid(packets, weights)
+    """,
+    "crossbars": """
+        class Crossbar(many)
+            put(one, gate, cell)
+            wants()
+            row_lengths()
+            how_many()
+            serve(match)
+            fields many, queues, slot, came, went
+        run(many, arrivals, choose)
+        emptied(bar, choose, most)
+        single_queue(many, arrivals, slots)
+        heads(bar)
+    """,
 }

@@ -7,10 +7,13 @@ import pathlib
 import unittest
 
 from crossloom import errors
+from crossloom.buckets import Bucket
 from crossloom.clos import Clos
 from crossloom.colours import Calls
+from crossloom.crossbars import Crossbar
 from crossloom.elements import Net
 from crossloom.matches import Turns
+from crossloom.rounds import Deficits
 from tests.interface import INTERFACE
 
 PACKAGE = pathlib.Path(__file__).resolve().parent.parent / "crossloom"
@@ -82,6 +85,9 @@ class Interface(unittest.TestCase):
             ("colours", "Calls", Calls([(0, 1)], 1, 2)),
             ("clos", "Clos", Clos(1, 2, 3)),
             ("matches", "Turns", Turns(2)),
+            ("buckets", "Bucket", Bucket(2, 1)),
+            ("rounds", "Deficits", Deficits((1, 2))),
+            ("crossbars", "Crossbar", Crossbar(2)),
         ]
 
     def test_each_class_with_fields_is_seen(self):
