@@ -215,4 +215,81 @@ INTERFACE = {
         single_queue(many, arrivals, slots)
         heads(bar)
     """,
+    "mimics": """
+        class Ideal(many)
+            leaving(gate, slot)
+            fields free
+        class Mimic(many)
+            put(one, gate, cell)
+            wanted(gate)
+            place(one, cell)
+            matched()
+            cross()
+            send()
+            turn(cells, times)
+            slack(one, place)
+            fields many, ideal, lists, crossed, slot
+        ideal_run(many, arrivals, slots)
+        mimic_run(many, arrivals, slots, times)
+    """,
+    "grids": """
+        class Grid(wide, high, round_ends)
+            nodes()
+            step(node, way)
+            near(node)
+            links()
+            far(one, other)
+            fields wide, high, round_ends
+        class Cube(ways)
+            nodes()
+            step(node, way)
+            near(node)
+            links()
+            far(one, other)
+            fields ways
+        gray(ways)
+        widest(shape)
+        steps_between(shape, one, other)
+        cut_links(shape, side)
+    """,
+    "ways": """
+        by_columns(grid, one, other)
+        by_figures(cube, one, other)
+        links_of(way)
+        waits(ways)
+        numbered(pairs)
+        check_numbers(pairs, numbers)
+        ring_of(pairs)
+        back_from(came, last)
+        check_ring(pairs, ring)
+        all_ways(shape, route)
+        levels(near, root)
+        goes_up(levels_of, one, other)
+        up_and_down(near, root, one, other)
+        is_up_and_down(near, root, way)
+    """,
+    "worms": """
+        class Worms(packets)
+            is_over(number)
+            all_over()
+            next_link(number)
+            can_move(number)
+            move(number)
+            leave(number)
+            go()
+            run(most)
+            waits_for(number)
+            ring()
+            fields ways, lengths, taken, left, holder, slots
+        alone(way, length)
+    """,
+    "marks": """
+        class Link(room, there, back)
+            turn(cells, drains)
+            counted()
+            fields room, there, back, marks, cells, notes, inside, slot, most
+        sent_in(room, there, back, slots)
+        room_for_all(there, back)
+        link_run(room, there, back, cells, drains)
+    """,
 }

@@ -12,8 +12,12 @@ from crossloom.clos import Clos
 from crossloom.colours import Calls
 from crossloom.crossbars import Crossbar
 from crossloom.elements import Net
+from crossloom.grids import Cube, Grid
+from crossloom.marks import Link
 from crossloom.matches import Turns
+from crossloom.mimics import Ideal, Mimic
 from crossloom.rounds import Deficits
+from crossloom.worms import Worms
 from tests.interface import INTERFACE
 
 PACKAGE = pathlib.Path(__file__).resolve().parent.parent / "crossloom"
@@ -88,6 +92,12 @@ class Interface(unittest.TestCase):
             ("buckets", "Bucket", Bucket(2, 1)),
             ("rounds", "Deficits", Deficits((1, 2))),
             ("crossbars", "Crossbar", Crossbar(2)),
+            ("mimics", "Ideal", Ideal(2)),
+            ("mimics", "Mimic", Mimic(2)),
+            ("grids", "Grid", Grid(2, 1, False)),
+            ("grids", "Cube", Cube(1)),
+            ("worms", "Worms", Worms((((0, 1), 1),))),
+            ("marks", "Link", Link(1, 1, 1)),
         ]
 
     def test_each_class_with_fields_is_seen(self):
