@@ -73,10 +73,11 @@ def check_numbers(pairs, numbers):
 def ring_of(pairs):
     """Return links that wait for each other in a ring, from the first on, None where none do."""
     behind = {}
+    # Put in in order, links and those that they wait for are gone through in order too.
     for before, after in sorted(set(fixed(pairs))):
         behind.setdefault(before, []).append(after)
     best = None
-    for start in sorted(behind):
+    for start in behind:
         ring = ring_from(behind, start)
         if ring is not None and (best is None or len(ring) < len(best)):
             best = ring

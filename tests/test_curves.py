@@ -136,6 +136,7 @@ class Bounds(Case):
         self.same(most_wait((0, 2), (0, 1, 1, 2)), 2)
         self.same([most_queue((0,), (0,)), most_wait((0,), (0,)), most_queue((0, 1), (0, 4))], [0, 0, 0])
         self.same(most_wait((0, 0), (0,)), None)
+        self.same([most_queue((), ()), most_wait((), ())], [0, 0])
 
     def test_no_stream_waits_longer(self):
         rows = [row for row in some_rows() if len(row) == 4][::2] + [row for row in some_rows() if len(row) == 8]

@@ -200,7 +200,11 @@ class Papers(Case):
     def test_rings_of_links(self):
         pairs = waits(all_ways(Grid(4, 1, True), by_columns))
         self.same(ring_of(pairs), tuple(((one, 0), ((one + 1) % 4, 0)) for one in range(4)))
-        self.same(self.both(lambda rows: check_ring(rows, ring_of(pairs)), pairs), True)
+        self.same(self.both(lambda rows: check_ring(rows[0], rows[1]), (pairs, ring_of(pairs))), True)
+        self.same(self.both(numbered, pairs), None)
+        pairs = ((((0, 0), (1, 0)), ((1, 0), (1, 1))),)
+        self.same(self.both(numbered, pairs), {((0, 0), (1, 0)): 0, ((1, 0), (1, 1)): 1})
+        self.same(self.both(ring_of, pairs), None)
         self.same(ring_of((("c", "b"), ("b", "a"), ("a", "c"), ("b", "c"))), ("b", "c"))
         self.same(ring_of(((7, 7), (1, 2), (2, 1))), (7,))
         self.same([ring_of(()), numbered(()), check_numbers((), {}), check_numbers([], {1: 2})], [None, {}, True, True])
