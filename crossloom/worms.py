@@ -16,8 +16,6 @@ class Worms:
         self.paths = tuple([links_of(way) for way in self.ways])
         self.taken = [0 for _ in self.ways]
         self.left = [0 for _ in self.ways]
-        # Slots in which a packet whose head has arrived was drawn in.
-        self.drawn = [0 for _ in self.ways]
         self.holder = {}
         self.slots = 0
 
@@ -43,14 +41,12 @@ class Worms:
     def move(self, number):
         """Move a packet by one: take its next link, or draw its end in; leave links longer behind than it is long."""
         link = self.next_link(number)
-        if link is None:
-            self.drawn[number] += 1
-        else:
+        if link is not None:
             self.holder[link] = number
             self.taken[number] += 1
-        # A packet longer than its way has its end ahead of the first link till so much of it is drawn in.
-        end = self.taken[number] + self.drawn[number] - self.lengths[number]
-        if self.left[number] < min(end, self.taken[number]):
+        held = self.taken[number] - self.left[number]
+        # Arrived, a packet leaves a link with each move, even where it is longer than what it holds.
+        if held > self.lengths[number] or (link is None and held > 0):
             self.leave(number)
 
     def leave(self, number):
@@ -97,4 +93,5 @@ class Worms:
 def alone(way, length):
     """Return how many slots a packet takes alone: its links, and its length to draw its end in, nought for no links."""
     links = len(links_of(way))
-    return links + length if links > 0 else 0
+    # No more of a packet than its way has links is on them when its head arrives, and is to be drawn in.
+    return links + min(length, links)

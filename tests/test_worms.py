@@ -11,7 +11,7 @@ from tests.every import Case, as_lists, state
 
 
 class SlowWorms:
-    """Packets by point [18]'s words: how far each has come, its end as far behind as it is long."""
+    """Packets by point [18]'s words: how often each has moved, its end as far behind as it is long till it arrives."""
 
     def __init__(self, packets):
         self.links = [list(zip(way, way[1:])) for way, _ in packets]
@@ -20,14 +20,15 @@ class SlowWorms:
 
     def held(self, number):
         links = self.links[number]
-        return links[max(self.come[number] - self.lengths[number], 0):self.come[number]]
+        taken = min(self.come[number], len(links))
+        # Arrived, it leaves a link with each move, be it longer than its way or not.
+        return links[max(taken - self.lengths[number], 0) + self.come[number] - taken:taken]
 
     def holder(self):
         return {link: number for number in range(len(self.links)) for link in self.held(number)}
 
     def is_over(self, number):
-        links = self.links[number]
-        return not links or self.come[number] >= len(links) + self.lengths[number]
+        return self.come[number] >= len(self.links[number]) and not self.held(number)
 
     def go(self):
         found = []
@@ -117,6 +118,19 @@ class Moves(Case):
         self.same([worms.move(1), worms.leave(1), worms.holder, worms.is_over(1)], [None, None, {(1, 2): 0}, True])
         self.same(worms.slots, 0)
 
+    def test_a_packet_longer_than_its_way_leaves_one_link_a_slot_when_it_has_arrived(self):
+        for length in (3, 4, 5, 50):
+            worms = Worms((((0, 1, 2, 3), length),))
+            rows = [(worms.go(), worms.taken[0], worms.left[0], worms.is_over(0)) for _ in range(7)]
+            self.same([row[:3] for row in rows[:3]], [((0,), taken, 0) for taken in (1, 2, 3)])
+            self.same(rows[3:], [((0,), 3, 1, False), ((0,), 3, 2, False), ((0,), 3, 3, True), ((), 3, 3, True)])
+            self.same(worms.holder, {})
+
+    def test_a_link_left_by_a_long_packet_is_free_for_others(self):
+        worms = Worms((((0, 1, 2), 9), ((0, 1), 9)))
+        self.same([worms.go() for _ in range(5)], [(0,), (0,), (0, 1), (0, 1), ()])
+        self.same((worms.left, worms.all_over()), ([2, 1], True))
+
     def test_slot_by_slot_by_the_words(self):
         draws = random.Random(41)
         told = []
@@ -185,7 +199,7 @@ class Runs(Case):
         for links, length in itertools.product(range(6), range(1, 8)):
             way = tuple(range(links + 1))
             found = self.both(alone, way, length)
-            self.same(found, links + length if links > 0 else 0)
+            self.same(found, links + length if length < links else 2 * links)
             worms = Worms(((way, length),))
             self.same((worms.run(99), worms.slots), ("over", found))
             if found > 0:
@@ -215,8 +229,7 @@ class Rings(Case):
         self.same(worms.is_over(2), True)
 
     def test_no_ring_where_some_wait_in_a_row(self):
-        worms = Worms((((0, 1, 2, 3), 9), ((2, 3), 9), ((3, 0, 1), 9)))
-        worms.go()
+        worms = Worms((((1, 2, 3), 9), ((2, 3, 4), 9), ((0, 1, 2), 9)))
         worms.go()
         self.same([worms.waits_for(one) for one in range(3)], [1, None, 0])
         self.same(worms.ring(), None)
