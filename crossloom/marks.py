@@ -30,7 +30,9 @@ class Link:
         self.let_in()
         gone = tuple(self.inside[:drains])
         self.inside = self.inside[len(gone):]
-        self.notes.extend([self.slot + max(self.back, 1) for _ in gone])
+        self.notes.extend([self.slot + self.back for _ in gone])
+        # Once more, for with no slots back a mark is at hand behind the slot in which its cell goes on.
+        self.take_notes()
         self.slot += 1
         return (sent, gone)
 

@@ -82,10 +82,12 @@ class Slots(Case):
     def test_no_slots_there_and_none_back(self):
         link = Link(1, 0, 0)
         self.same(link.turn(["a", "b"], 1), (("a",), ("a",)))
-        self.same((link.marks, link.cells, link.most), (0, [], 1))
-        # Its mark is for use from the slot behind at the earliest.
+        # Its mark is back in that slot, for use from the slot behind at the earliest.
+        self.same((link.marks, link.cells, list(link.notes), link.most), (1, [], [], 1))
         self.same(link.turn(["b"], 0), (("b",), ()))
+        self.same((link.marks, link.counted()), (0, 1))
         self.same(link.turn(["c"], 1), ((), ("b",)))
+        self.same((link.marks, link.counted()), (1, 1))
         self.same(link.turn(["c"], 1), (("c",), ("c",)))
 
     def test_a_room_of_nought(self):
@@ -125,7 +127,9 @@ class Slots(Case):
                 at_hand = slow.marks()
                 sent, gone = link.turn(row, many)
                 slow.turn(row, many)
-                self.same(link.marks, at_hand - len(sent))
+                # With no slots back those of cells that went on are at hand behind the slot itself.
+                self.same(link.marks, at_hand - len(sent) + (len(gone) if back == 0 else 0))
+                self.same(len(link.notes), len([left for left in slow.gone if back and left + back >= slow.slot]))
 
 
 class Rooms(Case):
