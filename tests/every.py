@@ -1,6 +1,5 @@
 """What the tests share: all pairings of a few gates, rows in both kinds, and what is refused."""
 
-import copy
 import itertools
 import unittest
 
@@ -47,8 +46,12 @@ def as_tuples(rows):
 
 
 def state(thing):
-    """Return a copy of what can be seen of an object: its fields."""
-    return copy.deepcopy(vars(thing)) if hasattr(thing, "__dict__") else copy.deepcopy(thing)
+    """Return a copy of what can be seen of an object: its fields, and those of all objects in it."""
+    if isinstance(thing, dict):
+        return {key: state(one) for key, one in thing.items()}
+    if isinstance(thing, (list, tuple)):
+        return type(thing)(state(one) for one in thing)
+    return state(vars(thing)) if hasattr(thing, "__dict__") else thing
 
 
 class Case(unittest.TestCase):

@@ -292,4 +292,65 @@ INTERFACE = {
         room_for_all(there, back)
         link_run(room, there, back, cells, drains)
     """,
+    "fairs": """
+        shared(one, other)
+        small(top, low)
+        less(one, other)
+        check_flows(flows, rooms)
+        next_full(left, open_flows, found)
+        rates(flows, rooms)
+        link_load(flows, given, link)
+        necks(flows, rooms, given)
+        check_fair(flows, rooms, given, links)
+    """,
+    "rooms": """
+        class Room(gates, most)
+            full()
+            longest()
+            put(gate)
+            put_pushing(gate)
+            put_within(gate, part)
+            send()
+            fields most, waiting, lost, sent
+        sent_by(gates, most, arrivals, pushing)
+        best_sent(gates, most, arrivals)
+        with_cell(states, gate, most)
+        sent_once(states)
+    """,
+    "throws": """
+        class Throws(shape, cells)
+            choose(node, goal, taken)
+            throw()
+            run(most)
+            away()
+            fields shape, cells, arrived, slots
+        bound(shape, cells)
+        most_away(shape)
+    """,
+    "trees": """
+        class Tree(leaves, switches, tops)
+            size()
+            switch(leaf)
+            way(one, other, top)
+            loads(pairs, tops)
+            most_load(pairs, tops)
+            spread(pairs)
+            by_goal(pairs)
+            least_load(pairs)
+            fields leaves, switches, tops
+        has_room(tree)
+    """,
+    "times": """
+        class Exchange(lines, slots, inner)
+            spot(line, slot)
+            connect(line, slot, other, goal)
+            part(line, slot)
+            reads(line)
+            joins(number)
+            writes(line)
+            frame(cells)
+            fields lines, slots, inner, net
+        inner_needed(slots, moving)
+        wait_of(slot, inner_slot, goal, slots)
+    """,
 }

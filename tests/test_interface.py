@@ -16,7 +16,11 @@ from crossloom.grids import Cube, Grid
 from crossloom.marks import Link
 from crossloom.matches import Turns
 from crossloom.mimics import Ideal, Mimic
+from crossloom.rooms import Room
 from crossloom.rounds import Deficits
+from crossloom.throws import Throws
+from crossloom.times import Exchange
+from crossloom.trees import Tree
 from crossloom.worms import Worms
 from tests.interface import INTERFACE
 
@@ -98,6 +102,10 @@ class Interface(unittest.TestCase):
             ("grids", "Cube", Cube(1)),
             ("worms", "Worms", Worms((((0, 1), 1),))),
             ("marks", "Link", Link(1, 1, 1)),
+            ("rooms", "Room", Room(1, 0)),
+            ("throws", "Throws", Throws(Cube(1), ())),
+            ("trees", "Tree", Tree(1, 1, 1)),
+            ("times", "Exchange", Exchange(1, 1, 1)),
         ]
 
     def test_each_class_with_fields_is_seen(self):
