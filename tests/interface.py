@@ -353,4 +353,69 @@ INTERFACE = {
         inner_needed(slots, moving)
         wait_of(slot, inner_slot, goal, slots)
     """,
+    "spreads": """
+        class Spread(many)
+            put(one, gate, cell)
+            joined(one)
+            out_of(place)
+            turn()
+            left_inside()
+            short()
+            longest(gate)
+            fields many, waiting, rows, middle, slot
+        drained(spread, most)
+    """,
+    "guards": """
+        check_near(near)
+        widen(near, used, one, other)
+        flow(near, one, other)
+        apart_ways(near, one, other)
+        cut(near, one, other)
+        cut_size(near, side)
+        check_ways(near, one, other, ways, side)
+        still_joined(near, one, other, broken)
+        near_of(shape)
+    """,
+    "switches": """
+        class Stream(one, gate, burst, rate)
+            fields one, gate, burst, rate
+        class Switch(many, slots)
+            all_rates()
+            admit(one, gate, burst, rate)
+            offer(counts)
+            turn(counts)
+            comes(number, slots)
+            serves(number, slots)
+            far(number)
+            queue_bound(number)
+            wait_bound(number)
+            fields many, slots, streams, buckets, plan, bar, refused
+    """,
+    "tables": """
+        joints_of_crossbar(many)
+        joints_of_rows(middle, gates, switches)
+        least_joints(many, moving)
+        elements_of_banyan(many)
+        comparers(many)
+        glance(many)
+        cheaper(many)
+    """,
+    "desks": """
+        number(word)
+        figure_of(text)
+        class Desk()
+            say(line)
+            do(line)
+            open_net()
+            change(word, numbers)
+            give(one, gate, much)
+            sure()
+            wait(one, gate)
+            write(body)
+            fields net, slots, rates, text, many
+        wanted(word)
+        lines_of(text)
+        done_again(text)
+        told_block(middle, gates)
+    """,
 }

@@ -11,6 +11,7 @@ from crossloom.buckets import Bucket
 from crossloom.clos import Clos
 from crossloom.colours import Calls
 from crossloom.crossbars import Crossbar
+from crossloom.desks import Desk
 from crossloom.elements import Net
 from crossloom.grids import Cube, Grid
 from crossloom.marks import Link
@@ -18,6 +19,8 @@ from crossloom.matches import Turns
 from crossloom.mimics import Ideal, Mimic
 from crossloom.rooms import Room
 from crossloom.rounds import Deficits
+from crossloom.spreads import Spread
+from crossloom.switches import Stream, Switch
 from crossloom.throws import Throws
 from crossloom.times import Exchange
 from crossloom.trees import Tree
@@ -106,6 +109,10 @@ class Interface(unittest.TestCase):
             ("throws", "Throws", Throws(Cube(1), ())),
             ("trees", "Tree", Tree(1, 1, 1)),
             ("times", "Exchange", Exchange(1, 1, 1)),
+            ("spreads", "Spread", Spread(2)),
+            ("switches", "Stream", Stream(0, 1, 2, 3)),
+            ("switches", "Switch", Switch(2, 3)),
+            ("desks", "Desk", Desk()),
         ]
 
     def test_each_class_with_fields_is_seen(self):

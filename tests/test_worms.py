@@ -117,6 +117,19 @@ class Moves(Case):
         self.same([worms.leave(0), worms.left, worms.holder], [None, [1, 0], {(1, 2): 0}])
         self.same([worms.move(1), worms.leave(1), worms.holder, worms.is_over(1)], [None, None, {(1, 2): 0}, True])
         self.same(worms.slots, 0)
+        # Over, it has no link left to leave.
+        self.same([worms.move(1), worms.taken, worms.left], [None, [2, 1], [1, 1]])
+
+    def test_a_packet_leaves_no_link_before_it_holds_more_than_its_length(self):
+        worms = Worms((((0, 1, 2, 3, 4), 2),))
+        worms.move(0)
+        worms.move(0)
+        worms.leave(0)
+        rows = []
+        for _ in range(4):
+            worms.move(0)
+            rows.append((worms.taken[0], worms.left[0]))
+        self.same(rows, [(3, 1), (4, 2), (4, 3), (4, 4)])
 
     def test_a_packet_longer_than_its_way_leaves_one_link_a_slot_when_it_has_arrived(self):
         for length in (3, 4, 5, 50):
