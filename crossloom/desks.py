@@ -2,7 +2,7 @@
 
 from crossloom.clos import Clos, blocking_row, can_carry, never_blocks
 from crossloom.errors import BadGate, BadNet, BadRate, BadSize, BadStore, BadText, Blocked, FabricFault, NoSuch
-from crossloom.frames import frame, longest_wait, too_much
+from crossloom.frames import frame, longest_wait, no_rates, too_much, widened
 
 FIGURES = '0123456789'
 BASE = 9973
@@ -106,13 +106,13 @@ class Desk:
         if numbers[0] > 12 or numbers[1] < 1 or numbers[1] > 60:
             raise BadSize("a frame of another size than it may have")
         self.slots = numbers[1]
-        self.rates = [[0 for _ in range(numbers[0])] for _ in range(numbers[0])]
+        self.rates = no_rates(numbers[0])
 
     def give(self, one, gate, much):
         """Give a pair of gates so many slots a frame; return nothing; NoSuch, BadRate with what is too much."""
         self.check_pair(one, gate)
-        rows = [list(row) for row in self.rates]
-        rows[one][gate] = much
+        # What the pair is given stands for what it had.
+        rows = widened(self.rates, one, gate, much - self.rates[one][gate])
         over = too_much(rows, self.slots)
         if over is not None:
             raise BadRate(f"too much at gate {over[0]} {over[1]}")

@@ -9,7 +9,7 @@ OUT = "out"
 
 def check_rates(rates, slots):
     """Return rates, rows of counts of slots; BadRate where a gate has more than a frame's slots."""
-    found = [list(row) for row in rates]
+    found = [tuple(row) for row in rates]
     many = len(found)
     if any([len(row) != many or any([rate < 0 for rate in row]) for row in found]):
         raise BadRate("rows that are no rates")
@@ -95,4 +95,9 @@ def widened(rates, one, gate, much):
     """Return rates with so much more for a pair of gates."""
     found = [list(row) for row in rates]
     found[one][gate] += much
-    return found
+    return [tuple(row) for row in found]
+
+
+def no_rates(many):
+    """Return rates of so many gates that have no slots yet."""
+    return [tuple([0 for _ in range(many)]) for _ in range(many)]

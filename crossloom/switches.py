@@ -4,7 +4,7 @@ from crossloom.buckets import Bucket
 from crossloom.crossbars import Crossbar
 from crossloom.curves import bucket_curve, most_queue, most_wait
 from crossloom.errors import BadGate, BadRate
-from crossloom.frames import check_rates, frame, least_served, widened
+from crossloom.frames import check_rates, frame, least_served, no_rates, widened
 
 
 class Stream:
@@ -36,7 +36,7 @@ class Switch:
 
     def all_rates(self):
         """Return the slots a frame that each pair of gates has been given."""
-        rates = [[0 for _ in range(self.many)] for _ in range(self.many)]
+        rates = no_rates(self.many)
         for stream in self.streams:
             rates = widened(rates, stream.one, stream.gate, stream.rate)
         return rates

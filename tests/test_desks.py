@@ -78,7 +78,7 @@ class Words(Case):
         desk = told(("open 2 3 4", "frame 2 5", "rate 1 0 2"))
         self.assertIsInstance(desk.net, Clos)
         self.same((desk.net.middle, desk.net.gates, desk.net.switches), (2, 3, 4))
-        self.same((desk.slots, desk.rates, desk.many), (5, [[0, 0], [2, 0]], 3))
+        self.same((desk.slots, desk.rates, desk.many), (5, [(0, 0), (2, 0)], 3))
 
     def test_how_many_numbers(self):
         self.same([wanted(word) for word in ("open", "call", "move", "end", "frame", "rate")], [3, 2, 2, 1, 2, 3])
@@ -132,7 +132,7 @@ class Words(Case):
         self.same([desk.say(line) for line in ("frame 2 3", "rate 0 1 2", "rate 1 0 1", "wait 0 1", "wait 1 0", "wait 0 0")],
                   [(), (), (), ("2",), ("3",), ("-",)])
         # A pair is given just so many slots, whatever it had.
-        self.same([desk.say("rate 0 1 3"), desk.say("wait 0 1"), desk.rates], [(), ("1",), [[0, 3], [1, 0]]])
+        self.same([desk.say("rate 0 1 3"), desk.say("wait 0 1"), desk.rates], [(), ("1",), [(0, 3), (1, 0)]])
         self.same([desk.say("rate 0 1 0"), desk.say("wait 0 1")], [(), ("-",)])
 
     def test_waits_as_the_frame_tells(self):
@@ -201,7 +201,7 @@ class Refusals(Case):
         self.refused(NoSuch, desk.wait, -1, 0)
         self.refused(BadSize, desk.change, "frame", [13, 4])
         self.refused(BadNet, desk.change, "open", [0, 1, 1])
-        self.same([desk.give(0, 0, 1), desk.rates, desk.open_net() is desk.net], [(), [[1, 3], [0, 0]], True])
+        self.same([desk.give(0, 0, 1), desk.rates, desk.open_net() is desk.net], [(), [(1, 3), (0, 0)], True])
 
     def test_text_comes_ahead_of_all_else(self):
         self.same([Desk().say("call 0 x"), Desk().say("end 0 0"), Desk().say("frame 13 x")], [("error: text",)] * 3)

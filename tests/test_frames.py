@@ -6,7 +6,7 @@ import random
 from crossloom.errors import BadRate
 from crossloom.frames import (
     check_rates, frame, free_slots, has_rates, least_served, longest_wait, served, too_much, widened)
-from tests.every import Case, as_lists
+from tests.every import Case, as_lists, as_tuples
 from tests.test_colours import slow_colour
 
 
@@ -89,8 +89,8 @@ class Rates(Case):
             self.same(self.both(too_much, rates, slots), wanted)
             if wanted is None:
                 found = self.both(check_rates, rates, slots)
-                self.assertIsInstance(found, list)
-                self.assertEqual(as_lists(found), as_lists(rates))
+                # A list, as its mark tells, of rows that are tuples.
+                self.same(found, list(as_tuples(rates)))
             else:
                 refused += 1
                 for call in (check_rates, frame):
@@ -124,11 +124,12 @@ class Rates(Case):
         for rates in (((2, 0), (1, 1)), [[2, 0], [1, 1]], ([2, 0], (1, 1))):
             before = repr(rates)
             found = widened(rates, 1, 0, 3)
-            self.assertIsInstance(found, list)
-            self.assertEqual(as_lists(found), [[2, 0], [4, 1]])
-            self.assertEqual(as_lists(widened(rates, 0, 1, 0)), [[2, 0], [1, 1]])
+            self.same(found, [(2, 0), (4, 1)])
+            self.same(widened(rates, 0, 1, 0), [(2, 0), (1, 1)])
+            self.same(widened(found, 0, 1, 1), [(2, 1), (4, 1)])
             self.assertEqual(repr(rates), before)
-        self.assertEqual(as_lists(widened(((0,),), 0, 0, 1)), [[1]])
+        self.same(found, [(2, 0), (4, 1)])
+        self.same(widened(((0,),), 0, 0, 1), [(1,)])
 
 
 class Plans(Case):

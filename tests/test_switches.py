@@ -66,10 +66,10 @@ class Fields(Case):
         self.same((switch.many, switch.slots, switch.streams, switch.buckets, switch.refused), (2, 3, [], [], 0))
         self.same(switch.plan, ((None, None),) * 3)
         self.assertIsInstance(switch.bar, Crossbar)
-        self.same((switch.bar.many, switch.all_rates()), (2, [[0, 0], [0, 0]]))
+        self.same((switch.bar.many, switch.all_rates()), (2, [(0, 0), (0, 0)]))
         self.same([switch.admit(0, 1, 2, 3), switch.admit(1, 0, 5, 1)], [0, 1])
         self.same([(each.one, each.gate, each.burst, each.rate) for each in switch.streams], [(0, 1, 2, 3), (1, 0, 5, 1)])
-        self.same((len(switch.buckets), switch.all_rates()), (2, [[0, 3], [1, 0]]))
+        self.same((len(switch.buckets), switch.all_rates()), (2, [(0, 3), (1, 0)]))
         self.assertTrue(has_rates(switch.plan, switch.all_rates()))
         stream = Stream(3, 4, 5, 6)
         self.same((stream.one, stream.gate, stream.burst, stream.rate), (3, 4, 5, 6))
@@ -122,7 +122,7 @@ class Admitted(Case):
                     self.refused(BadRate, switch.admit, one, gate, 1, rate)
                 else:
                     switch.admit(one, gate, 1, rate)
-                self.same(switch.all_rates(), rates)
+                self.same(switch.all_rates(), [tuple(row) for row in rates])
                 self.assertTrue(has_rates(switch.plan, rates))
 
 
